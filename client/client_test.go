@@ -113,14 +113,16 @@ func TestWhatIsHandedInIsNotKept(t *testing.T) {
 	spoil(l, api.Record{Key: "bad"})
 	checkRows(t, x, 0, false, "0:a 1:b")
 
-	dark(c)
+	// No broker is up, so that nothing of it is written till the Retry.
+	c.Stop(cluster.Server, 0)
+	c.Stop(cluster.Server, 1)
 	room, l = hand()
-	if _, e := x.Send(0, l); e != api.ErrLost {
+	if _, e := x.Send(0, l); e != api.ErrPower {
 		t.Errorf("Send: %d", e)
 	}
 	hold(room)
 	spoil(l, api.Record{Key: "bad", Value: "bad"})
-	lit(c)
+	check(t, "Well", c.Well(), api.OK)
 	checkRetry(t, x, 0, 2, api.OK)
 	checkRows(t, x, 0, false, "0:a 1:b 2:a 3:b")
 }
