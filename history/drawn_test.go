@@ -150,6 +150,29 @@ func TestAnyCalls(t *testing.T) {
 	}
 }
 
+// TestMoreCalls: up to twelve, played and spoilt a little.
+func TestMoreCalls(t *testing.T) {
+	r := seeded(8)
+	count := map[api.Errno]int{}
+	for range 6000 {
+		l, _ := played(r, 8+r.IntN(5), 1+r.IntN(12), 2)
+		for range r.IntN(9) {
+			spoil(r, l)
+		}
+		e := history.Check(l)
+		count[e]++
+		if e == api.ErrArg {
+			continue
+		}
+		if want := searchedCheck(l); e != want {
+			t.Fatalf("Check(%+v): %d, not %d", l, e, want)
+		}
+	}
+	if count[api.OK] < 1000 || count[api.ErrOrder] < 1000 {
+		t.Errorf("too few of one kind: %v", count)
+	}
+}
+
 // spoil changes a word of a call.
 func spoil(r *rand.Rand, l []history.Call) {
 	c := &l[r.IntN(len(l))]

@@ -59,7 +59,9 @@ func TestCheck(t *testing.T) {
 		"two gaps, one to fill them":        {[]history.Call{put("c", 0, 9, 2), open("a", 0)}, api.ErrOrder},
 		"a read between":                    {[]history.Call{a, b, get(1, 2, "a"), get(0, 0+1), get(3, 4, "a", "b")}, api.OK},
 		"a read between shows too much":     {[]history.Call{a, put("b", 4, 5, 1), get(2, 3, "a", "b")}, api.ErrOrder},
-		"the sheet's last one":              {[]history.Call{get(0, 9), get(1, 2), put("a", 3, 4, 0), get(5, 6, "a")}, api.OK},
+		"one read beside, one ahead":        {[]history.Call{get(0, 9), get(1, 2), put("a", 3, 4, 0), get(5, 6, "a")}, api.OK},
+		"shown at the end of all times":     {[]history.Call{open("a", lastTime), open("b", lastTime), get(0, lastTime, "a", "b")}, api.OK},
+		"shown just ahead of it":            {[]history.Call{open("a", lastTime), get(0, lastTime-1, "a")}, api.ErrOrder},
 		"more than it needs":                {[]history.Call{a, open("x", 0), open("y", 0), open("z", 9), get(9, 10, "a")}, api.OK},
 	} {
 		t.Run(name, func(t *testing.T) {

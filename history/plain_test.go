@@ -2,6 +2,7 @@ package history_test
 
 import (
 	"slices"
+	"strings"
 	"testing"
 
 	"gazette/api"
@@ -121,4 +122,55 @@ func TestThePlainOne(t *testing.T) {
 			t.Errorf("%+v: %d, not %d", x.l, e, x.want)
 		}
 	}
+}
+
+// searched is plainCheck of a history that may be, for more calls: it does one call behind the other, and goes on from what was done and the log that came of it but once.
+type searched struct {
+	l    []history.Call
+	been map[point]bool
+}
+
+type point struct {
+	done int // a bit a call
+	log  string
+}
+
+func searchedCheck(l []history.Call) api.Errno {
+	s := searched{without(l, func(c history.Call) bool { return c.Read && !c.Done }), map[point]bool{}}
+	if s.goesOn(0, nil) {
+		return api.OK
+	}
+	return api.ErrOrder
+}
+
+func (s *searched) goesOn(done int, log []string) bool {
+	p := point{done, strings.Join(log, " ")}
+	if s.been[p] {
+		return false
+	}
+	s.been[p] = true
+	all := true
+	for i, c := range s.l {
+		if done>>i&1 == 1 {
+			continue
+		}
+		all = all && !c.Done
+		next := done | 1<<i
+		switch {
+		case s.isLate(done, c), c.Read && !slices.Equal(c.Values, log), c.Done && !c.Read && c.Offset != len(log):
+		case c.Read && s.goesOn(next, log), !c.Read && s.goesOn(next, append(slices.Clone(log), c.Value)):
+			return true
+		}
+	}
+	return all
+}
+
+// isLate tells whether a call that is still to be done ended ahead of the Begin of this one.
+func (s *searched) isLate(done int, c history.Call) bool {
+	for i, d := range s.l {
+		if done>>i&1 == 0 && d.Done && d.End < c.Begin {
+			return true
+		}
+	}
+	return false
 }
